@@ -1,0 +1,1 @@
+"""The best by linear conditions, exactly."""
