@@ -4,6 +4,7 @@ from bestbylines.desk import answers
 
 BEGINS = [0, 0, 0]
 BEST = [2, 0, 0]
+TIGHT = [3, 0, 0]
 
 
 def problem(n, conditions, goal):
@@ -12,6 +13,14 @@ def problem(n, conditions, goal):
     for numbers in list(conditions) + [goal]:
         call += [len(numbers)] + list(numbers)
     return call
+
+
+def table(i, start, step, k):
+    return [4, 4, i, start, step, k, 0]
+
+
+def point(uppers, lower):
+    return [5, 1, lower, 1, len(uppers)] + list(uppers)
 
 
 def split(told):
@@ -31,9 +40,17 @@ def ask(*calls):
     return split(answers([number for call in calls for number in call]))
 
 
+def behind(posed, call):
+    """The answer to the call behind a problem that is not refused."""
+    told = ask(posed, call)
+    if told[0] != [0] or len(told) != 2:
+        raise AssertionError(f"refused: {told}")
+    return told[1]
+
+
 def best(n, conditions, goal):
     """What best answers behind the 0, for a problem that is not refused."""
-    told = ask(problem(n, conditions, goal), BEST)
-    if told[0] != [0] or len(told) != 2 or told[1][0] != 0:
+    told = behind(problem(n, conditions, goal), BEST)
+    if told[0] != 0:
         raise AssertionError(f"refused: {told}")
-    return told[1][1:]
+    return told[1:]

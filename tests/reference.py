@@ -1,4 +1,4 @@
-"""The best once more, in another way: every corner is worked out, and the best of them taken."""
+"""The calls once more, in another way: every corner is worked out, and the best of them taken."""
 
 from fractions import Fraction
 from itertools import combinations
@@ -51,14 +51,42 @@ def rises_for_ever(n, conditions, goal):
     return any(product(goal, point) > 0 for point in corners(n, directions))
 
 
-def best(n, conditions, goal):
+def kind_and_point(n, conditions, goal):
     points = list(corners(n, conditions))
     if not points:
-        return [0]
+        return 0, None
     if rises_for_ever(n, conditions, goal):
-        return [1]
-    point = max(points, key=lambda p: (product(goal, p), [-x for x in p]))
-    told = [2]
-    for value in [product(goal, point)] + point:
-        told += [Fraction(value).numerator, Fraction(value).denominator]
-    return told
+        return 1, None
+    return 2, max(points, key=lambda p: (product(goal, p), [-x for x in p]))
+
+
+def told(values):
+    return [number for value in values for number in (Fraction(value).numerator, Fraction(value).denominator)]
+
+
+def best(n, conditions, goal):
+    kind, found = kind_and_point(n, conditions, goal)
+    return [2] + told([product(goal, found)] + found) if kind == 2 else [kind]
+
+
+def tight(n, conditions, goal):
+    kind, found = kind_and_point(n, conditions, goal)
+    if kind != 2:
+        return [-3]
+    which = [i for i, (_, limit, *numbers) in enumerate(conditions) if product(numbers, found) == limit]
+    return [len(which)] + which
+
+
+def with_limit(conditions, i, limit):
+    return [[kind, limit if j == i else old, *numbers] for j, (kind, old, *numbers) in enumerate(conditions)]
+
+
+def table(n, conditions, goal, i, start, step, k):
+    # A kind, or a kind and the sum's two numbers; the amounts behind them are left out.
+    return [k] + [number for turn in range(k)
+                  for number in best(n, with_limit(conditions, i, start + turn * step), goal)[:3]]
+
+
+def point(conditions, goal, uppers, lower):
+    amounts = [Fraction(upper, lower) for upper in uppers]
+    return [int(fits(conditions, amounts))] + told([product(goal, amounts)])
